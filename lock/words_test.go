@@ -176,13 +176,10 @@ func (m *master) gets(node int, op int64) []api.Order {
 }
 
 func (m *master) release(node int, op int64) []api.Order {
-	if node < 0 || !m.holding(node) {
+	if node < 0 || node > 7 {
 		return nil
 	}
 	sends := m.got && m.supplier == node
-	if op != m.book().Ops[node] && !(sends && op == m.op) {
-		return nil
-	}
 	waited := m.wrote && m.owner == node
 	if delete(m.shared, node); m.exclusive == node {
 		m.exclusive = -1
@@ -255,6 +252,9 @@ func (b both) call(r *rand.Rand, many int) call {
 		} else if c.kind >= 5 {
 			c.op = now.Ops[c.node]
 		}
+	}
+	if c.kind == 5 && r.Intn(4) == 0 { // a Release by the node's own word
+		c.op = now.Op + int64(r.Intn(5)) - 3
 	}
 	switch r.Intn(60) {
 	case 0:
@@ -356,7 +356,10 @@ func (b both) calls(many int) []call {
 		}
 		l = append(l, call{kind: 3, node: node, op: now.Op}, call{kind: 4, node: node, op: now.Op})
 		for _, op := range slices.Compact([]int64{now.Ops[node], now.Op}) {
-			l = append(l, call{kind: 5, node: node, op: op}, call{kind: 6, node: node, op: op, psn: 1})
+			l = append(l, call{kind: 6, node: node, op: op, psn: 1})
+		}
+		for _, op := range []int64{now.Op - 1, now.Op} { // the chapter asks no more of it than whether it is below
+			l = append(l, call{kind: 5, node: node, op: op})
 		}
 	}
 	return l
